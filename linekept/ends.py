@@ -9,11 +9,15 @@ CALL_CONNECT = 1
 CALL_FINISH = 2
 CALL_SEND = 3
 CALL_BITS = 4
+CALL_TICK = 5
+CALL_OUTPUT = 6
+CALL_TAKE = 7
 
 # By the call's number: how many numbers it has, those of its row and their count apart.
-HEAD_SIZES = (6, 3, 3, 3, 4)
+HEAD_SIZES = (6, 3, 3, 3, 4, 3, 3, 3, 2)
 
 MOST_BITS_IN_CALL = 524280
+MOST_BYTES_IN_OUTPUT = 65536
 
 
 def answers(calls):
@@ -48,13 +52,25 @@ def answer_call(ends, head, row):
     end = ends[which]
     if end is None:
         return [-9]
-    if call == CALL_CONNECT:
-        return [connect(end, head[2])]
-    if call == CALL_FINISH:
-        return [finish(end, head[2])]
+    if call == CALL_BITS:
+        return [bits(end, head[2], row, head[3])]
     if call == CALL_SEND:
         return [send(end, row, head[2])]
-    return [bits(end, head[2], row, head[3])]
+    return answer_without_row(end, call, head[2:])
+
+
+def answer_without_row(end, call, numbers):
+    if call == CALL_CONNECT:
+        return [connect(end, numbers[0])]
+    if call == CALL_FINISH:
+        return [finish(end, numbers[0])]
+    if call == CALL_TICK:
+        return [tick(end, numbers[0])]
+    if call == CALL_OUTPUT:
+        return output(end, numbers[0])
+    if call == CALL_TAKE:
+        return take(end, numbers[0])
+    return told(end)
 
 
 def begin(ends, which, settings):
@@ -105,3 +121,32 @@ def bits(end, count, data, now):
         if frame is not None:
             take_frame(end, frame, now)
     return 0
+
+
+def tick(end, now):
+    end.see_to_clock(now)
+    return 0
+
+
+def output(end, most):
+    if most < 0 or most > MOST_BYTES_IN_OUTPUT:
+        return [-2]
+    data = end.outbox.hand_out(most)
+    return [len(data)] + data
+
+
+def take(end, most):
+    if most < 0:
+        return [-2]
+    if len(end.arrived) == 0:
+        return [0]
+    message = end.arrived[0]
+    if len(message) > most:
+        return [-1]
+    end.arrived = end.arrived[1:]
+    return [len(message)] + message
+
+
+def told(end):
+    numbers = [end.next_number, end.first_open, end.awaited]
+    return [0, end.stage] + numbers + [len(end.leaving), len(end.arrived)]

@@ -65,7 +65,9 @@ def is_known(kind, is_command):
 
 
 def fault_of(kind, is_command, size):
-    # The document tells the first of 3, 4 and 8; so 1 stands only where none of these does.
+    # How many bytes there may be is said only of frames that there are, so this comes first.
+    if not is_known(kind, is_command):
+        return FAULT_CONTROL
     if kind == NUMBERED:
         if size == 0:
             return FAULT_BYTES
@@ -73,13 +75,16 @@ def fault_of(kind, is_command, size):
             return FAULT_TOO_MANY
     elif size != (3 if kind == WRONG else 0):
         return FAULT_BYTES
-    if not is_known(kind, is_command):
-        return FAULT_CONTROL
     return FAULT_NONE
 
 
 def bits_of_bytes(data):
     return "".join([HALF_BITS[byte & 15] + HALF_BITS[byte >> 4] for byte in data])
+
+
+# text: the bits of whole bytes.
+def bytes_of_text(text):
+    return [int(text[start:start + 8][::-1], 2) for start in range(0, len(text), 8)]
 
 
 # body: the address, the control byte and the bytes, without the sum.

@@ -1,6 +1,6 @@
 """One end of the line: what it keeps, and the steps that the rules for calls and frames share."""
 
-from linekept.frames import BUSY, FAULT_ANSWERED, HELLO, NUMBERED, READY, WRONG
+from linekept.frames import BUSY, END, FAULT_ANSWERED, HELLO, NUMBERED, READY, WRONG
 from linekept.listener import Listener
 from linekept.outbox import Outbox
 
@@ -12,6 +12,9 @@ STAGE_STUCK = 4
 
 # As many messages may wait to go out, and as many to be taken.
 MOST_MESSAGES = 64
+
+# Times go round behind as many milliseconds.
+ROUND_OF_TIME = 4294967296
 
 
 class LineEnd:
@@ -55,6 +58,35 @@ class LineEnd:
     def stop_clock(self):
         self.clock_runs = False
 
+    def clock_is_out(self, now):
+        return self.clock_runs and (now - self.clock_began) % ROUND_OF_TIME >= self.patience
+
+    def see_to_clock(self, now):
+        if not self.clock_is_out(now):
+            return
+        self.times_out += 1
+        if self.times_out > self.tries:
+            self.give_up(now)
+        else:
+            self.start_clock(now)
+            self.ask_anew()
+
+    # The clock runs only when greeting, up or ending.
+    def give_up(self, now):
+        if self.stage == STAGE_UP:
+            self.greet(now)
+        else:
+            self.go_down()
+
+    def ask_anew(self):
+        if self.stage == STAGE_GREETING:
+            self.send_command(HELLO, 1)
+        elif self.stage == STAGE_ENDING:
+            self.send_command(END, 1)
+        else:
+            self.polls = True
+            self.send_command(self.state_control(), 1)
+
     def greet(self, now):
         self.afresh()
         self.stage = STAGE_GREETING
@@ -77,9 +109,12 @@ class LineEnd:
     def send_answer(self, control, final):
         self.outbox.put_frame([self.answer_address, control | final << 4])
 
-    def tell_state(self, final):
+    def state_control(self):
         kind = READY if len(self.arrived) < MOST_MESSAGES else BUSY
-        self.send_answer(kind | self.awaited << 5, final)
+        return kind | self.awaited << 5
+
+    def tell_state(self, final):
+        self.send_answer(self.state_control(), final)
 
     def open_count(self):
         return (self.next_number - self.first_open) % 8

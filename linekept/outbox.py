@@ -1,12 +1,13 @@
 """The bits that wait to be sent."""
 
-from linekept.frames import frame_bits, least_frame_bits
+from linekept.frames import bytes_of_text, frame_bits, least_frame_bits
 
 MOST_BITS_WAITING = 1048576
 
 
 class Outbox:
     def __init__(self):
+        # The first of the frames may have been handed out in part: what's left of it stands here.
         self.frames = []
         self.size = 0
         self.built = {}
@@ -31,3 +32,20 @@ class Outbox:
             last = (body, frame_bits(body))
             self.built[control] = last
         return last[1]
+
+    # Gives back so many bytes at most. The last one is filled up only where all bits fit in.
+    def hand_out(self, most):
+        text = self.cut_off(min(8 * most, self.size))
+        return bytes_of_text(text + "1" * (-len(text) % 8))
+
+    def cut_off(self, count):
+        used = 0
+        found = 0
+        while found < count:
+            found += len(self.frames[used])
+            used += 1
+        text = "".join(self.frames[:used])
+        rest = [text[count:]] if found > count else []
+        self.frames = rest + self.frames[used:]
+        self.size -= count
+        return text[:count]

@@ -103,15 +103,111 @@ def frame(address, control, data=(), end=0, now=0):
     return bits(framed([address, control] + list(data)), end, now)
 
 
-def firsts(*calls):
-    """The first number of each answer; none of the calls so far answers more than that."""
+def tick(end=0, now=0):
+    return [5, end, now]
+
+
+def output(most=65536, end=0):
+    return [6, end, most]
+
+
+def take(most=1024, end=0):
+    return [7, end, most]
+
+
+def told(end=0):
+    return [8, end]
+
+
+# What is answered.
+
+def replies(*calls):
+    """The answers, each as a list of its numbers."""
     given = answers([number for call in calls for number in call])
-    assert given[::2] == [1] * len(calls), given
-    return given[1::2]
+    found = []
+    while given:
+        found.append(given[1:1 + given[0]])
+        given = given[1 + given[0]:]
+    assert len(found) == len(calls), found
+    return found
+
+
+def reply(*calls):
+    return replies(*calls)[-1]
+
+
+def firsts(*calls):
+    """The first number of each answer, for calls that answer no more than that."""
+    found = replies(*calls)
+    assert all(len(answer) == 1 for answer in found), found
+    return [answer[0] for answer in found]
 
 
 def last(*calls):
     return firsts(*calls)[-1]
+
+
+def told_of(*calls, end=0):
+    """What told says behind the calls, but for its 0: stage, s, a, r, how many wait to go out and to be taken."""
+    answer = reply(*calls, told(end))
+    assert answer[0] == 0 and len(answer) == 7, answer
+    return answer[1:]
+
+
+def bytes_out(*calls, end=0):
+    """What a last output hands out."""
+    answer = reply(*calls, output(end=end))
+    assert answer[0] == len(answer) - 1, answer
+    return answer[1:]
+
+
+def all_framed(*bodies):
+    return "".join(framed(body) for body in bodies)
+
+
+def sent_bytes(*bodies):
+    """The bytes of these frames as an output hands them out, the last one filled up."""
+    return packed(all_framed(*bodies), "1")
+
+
+def frames_in(data):
+    """The bodies of the frames in what was handed out; the filling is looked at too."""
+    text = plain_bits(data)
+    found = []
+    while len(text) > 7:
+        behind = text.index(FLAG, 8) + 8
+        found.append(unframed(text[:behind]))
+        text = text[behind:]
+    assert text == "1" * len(text), text
+    return found
+
+
+def frames_out(*calls, end=0):
+    return frames_in(bytes_out(*calls, end=end))
+
+
+def hears_with(side):
+    """The address of the commands that the side gets; its own answers have it too."""
+    return 3 if side == 0 else 1
+
+
+def asks_with(side):
+    """The address of the side's own commands; it gets the other's answers with it."""
+    return 1 if side == 0 else 3
+
+
+def leading_to(stage, side=0, window=7, patience=1000, tries=10, now=0):
+    """Calls that bring end 0 to the stage, s, a and r at 0, with nothing left to be sent."""
+    calls = [begin(0, side, window, patience, tries)]
+    if stage == GREETING_STAGE:
+        calls.append(connect(now=now))
+    if stage in (UP_STAGE, ENDING_STAGE, STUCK_STAGE):
+        calls.append(frame(hears_with(side), HELLO))
+    if stage == ENDING_STAGE:
+        calls.append(finish(now=now))
+    if stage == STUCK_STAGE:
+        calls.append(frame(hears_with(side), 0x03))
+    return calls + [output()]
 
 
 def stage_seen(*calls, end=0):
@@ -187,3 +283,24 @@ def in_stage(stage, **settings):
     probe.sent()
     assert probe.end.stage == stage
     return probe
+
+
+class Line:
+    """Two ends, asked call by call. All is kept, so that it can be handed in as one list as well."""
+
+    def __init__(self, *calls):
+        self.ends = [None, None]
+        self.calls = []
+        self.given = []
+        for call in calls:
+            self.ask(call)
+
+    def ask(self, call):
+        head, row = call, []
+        if call[0] in (3, 4):
+            size = call[0]
+            head, row = call[:size], call[size + 1:]
+        answer = ends.answer_call(self.ends, head, row)
+        self.calls += call
+        self.given += [len(answer)] + answer
+        return answer

@@ -110,14 +110,23 @@ class FirstOf(Case):
         probe = up()
         self.check_stuck(probe, probe.answer(READY | 0x20, [1]), READY | 0x20, 3)
 
-    def test_3_where_the_control_byte_is_wrong_too(self):
-        # "The first of 3, 4, 8": 1 stands just where none of these does.
-        for control, data in ((0x03, [1]), (YES, [1]), (WRONG, [1])):
-            probe = up()
-            self.check_stuck(probe, probe.command(control, data), control, 3)
-        for control, data in ((0x03, [1]), (HELLO, [1]), (NUMBERED, [])):
-            probe = up()
-            self.check_stuck(probe, probe.answer(control, data), control, 3)
+    def test_1_whatever_bytes_the_frame_has(self):
+        for size in (0, 1, 2, 3, 4, 1024):
+            for control in (0x03, YES, DOWN, WRONG):
+                probe = up()
+                self.check_stuck(probe, probe.command(control, [7] * size), control, 1)
+            for control in (0x03, NUMBERED, HELLO, END):
+                probe = up()
+                self.check_stuck(probe, probe.answer(control, [7] * size), control, 1)
+
+    def test_1_ahead_of_4(self):
+        # No frame that is looked at has so many bytes, so by the rule's own function.
+        self.assertEqual(fault_of(NUMBERED, False, 1025), 1)
+        self.assertEqual(fault_of(0x03, True, 1025), 1)
+
+    def test_3_ahead_of_4(self):
+        self.assertEqual(fault_of(READY, True, 1025), 3)
+        self.assertEqual(fault_of(WRONG, False, 1025), 3)
 
     def test_1_ahead_of_8(self):
         probe = up()
